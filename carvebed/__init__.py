@@ -1,0 +1,1 @@
+"""Carvebed: stuff carved by cutters, plainly and by spans."""
