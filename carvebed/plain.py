@@ -1,20 +1,6 @@
 """Programs run plainly, statement by statement."""
 
-MOST_NUMBER = 1000000
-MOST_CALLS = 10
-MOST_COUNTED = 2000
-BEGINNING = {"x": 0, "y": 0, "z": 1000}
-
-
-class Stop(Exception):
-    def __init__(self, end):
-        self.end = end
-
-
-def bounded(number):
-    if number > MOST_NUMBER or number < -MOST_NUMBER:
-        raise Stop(("big",))
-    return number
+from carvebed.runs import Stop, Track, bounded, joined, look_at_depth
 
 
 def reckoned(told, names):
@@ -33,14 +19,6 @@ def named(name, names):
     return names[name]
 
 
-def joined(sign, first, second):
-    if sign == "+":
-        return first + second
-    if sign == "-":
-        return first - second
-    return first * second
-
-
 # A body that is being done. Only a times has turns; all other bodies are done once, from their first statement.
 class Walk:
     def __init__(self, body, names, of_call):
@@ -56,9 +34,7 @@ class Walk:
 class Run:
     def __init__(self, program):
         self.subs = dict([(sub[0], sub) for sub in program[0]])
-        self.moves = []
-        self.places = dict(BEGINNING)
-        self.counted = 0
+        self.track = Track()
         # The innermost last. They stand in a list, not in calls of this program's own, so that
         # bodies and calls within one another don't lean on how deep Python may recurse.
         self.walks = [Walk(program[1], {}, False)]
@@ -77,23 +53,18 @@ class Run:
             self.walks.pop()
 
     def begin_turn(self, walk):
-        self.count_one()
+        self.track.count_one()
         walk.names[walk.counter] = walk.turn
         walk.turn += 1
         walk.at = 0
 
-    def count_one(self):
-        if self.counted == MOST_COUNTED:
-            raise Stop(("long",))
-        self.counted += 1
-
     def do(self, statement, names):
-        self.count_one()
+        self.track.count_one()
         word = statement[0]
         if word == "hold":
-            self.moves.append(("hold", reckoned(statement[1], names)))
+            self.track.make_hold(reckoned(statement[1], names))
         elif word == "move":
-            self.do_move(statement, names)
+            self.track.make_move(statement[1], statement[2], reckoned(statement[3], names), statement[4])
         elif word == "let":
             names[statement[1]] = reckoned(statement[2], names)
         elif word == "call":
@@ -103,17 +74,8 @@ class Run:
         else:
             self.do_if(statement, names)
 
-    def do_move(self, statement, names):
-        axis = statement[2]
-        to = reckoned(statement[3], names)
-        if statement[4]:
-            to = bounded(self.places[axis] + to)
-        self.places[axis] = to
-        self.moves.append((statement[1], axis, to))
-
     def do_call(self, statement, names):
-        if len([walk for walk in self.walks if walk.of_call]) == MOST_CALLS:
-            raise Stop(("deep",))
+        look_at_depth(len([walk for walk in self.walks if walk.of_call]))
         sub = self.subs[statement[1]]
         numbers = [reckoned(told, names) for told in statement[2]]
         self.walks.append(Walk(sub[2], dict(zip(sub[1], numbers)), True))
@@ -138,5 +100,5 @@ def run_plainly(program):
     try:
         run.go()
     except Stop as stop:
-        return (run.moves, stop.end)
-    return (run.moves, ("done",))
+        return (run.track.moves, stop.end)
+    return (run.track.moves, ("done",))

@@ -1,4 +1,4 @@
-"""What the tests share: how a refusal is looked at, and values told apart down to their kinds."""
+"""What the tests share: refusals and values looked at closely, rows that count, and what is drawn."""
 
 from carvebed import errors
 
@@ -21,6 +21,16 @@ def text_of(*rows):
     return "\n".join(rows)
 
 
+def counting(many):
+    """Rows that count just so many, and make no moves: a times, and its turns."""
+    return ["times pad " + str(many - 1), "end"]
+
+
+def nested(depth, last):
+    """A sub that calls itself that many deep, each call a hold, and then does the last row."""
+    return ["sub a n", "hold n", "if n < " + str(depth), "call a n+1", "else", last, "end", "end", "call a 1"]
+
+
 def exact(value):
     """A text that differs for lists and tuples, and for truths and numbers, where == may not."""
     if isinstance(value, (list, tuple)):
@@ -37,3 +47,62 @@ def lists_in(value):
         for part in value:
             found.extend(lists_in(part))
     return found
+
+
+def all_apart(lists):
+    """Whether no two of the lists are one."""
+    return len({id(one): one for one in lists}) == len(lists)
+
+
+class Draws:
+    """Numbers drawn one after another, the same each time and under each Python."""
+
+    def __init__(self, seed):
+        self.state = seed
+
+    def below(self, many):
+        self.state = (self.state * 6364136223846793005 + 1442695040888963407) % 2 ** 64
+        return (self.state >> 33) % many
+
+    def between(self, least, most):
+        return least + self.below(most - least + 1)
+
+    def among(self, choices):
+        return choices[self.below(len(choices))]
+
+
+ROW_LENGTHS = {
+    "push": 2, "load": 2, "store": 2, "add": 1, "sub": 1, "mul": 1, "less": 1, "same": 1, "jump": 2, "unless": 2,
+    "call": 3, "back": 1, "count": 1, "deeper": 1, "hold": 1, "move": 4, "stop": 1,
+}
+
+
+def is_whole(value):
+    return isinstance(value, int) and not isinstance(value, bool)
+
+
+def is_code_row(row, length):
+    """Whether a row is of one of the seventeen forms, in code of that many rows."""
+    if not isinstance(row, tuple) or not row or ROW_LENGTHS.get(row[0]) != len(row):
+        return False
+    if row[0] == "push":
+        return is_whole(row[1])
+    if row[0] in ("load", "store"):
+        return isinstance(row[1], str)
+    if row[0] == "move":
+        return row[1] in ("fast", "slow") and row[2] in ("x", "y", "z") and (row[3] is True or row[3] is False)
+    if row[0] in ("jump", "unless", "call") and not (is_whole(row[1]) and 0 <= row[1] < length):
+        return False
+    if row[0] == "call":
+        names = row[2]
+        return isinstance(names, list) and len(set(names)) == len(names) and all(isinstance(n, str) for n in names)
+    return True
+
+
+# Feet: one cell; and one that is alike on no two sides, to the right, down, and aslant to the left and up.
+DOT = [(0, 0)]
+HOOK = [(1, 0), (0, 0), (0, 2), (-1, -1)]
+
+
+def flat(width, depth, height):
+    return [[height] * width for y in range(depth)]

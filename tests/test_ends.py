@@ -4,23 +4,13 @@ import unittest
 
 from carvebed.plain import run_plainly
 from carvebed.programs import read
-from tests.helper import exact, text_of
+from tests.helper import counting, exact, nested, text_of
 
 DONE = ("done",)
 BIG = ("big",)
 DEEP = ("deep",)
 LONG = ("long",)
 MOST = 1000000
-
-
-def counting(many):
-    """Rows that count just so many, and make no moves: a times, and its turns."""
-    return ["times pad " + str(many - 1), "end"]
-
-
-def nested(depth, last):
-    """A sub that calls itself that many deep, each call a hold, and then does the last row."""
-    return ["sub a n", "hold n", "if n < " + str(depth), "call a n+1", "else", last, "end", "end", "call a 1"]
 
 
 class EndsTest(unittest.TestCase):
