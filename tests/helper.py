@@ -1,6 +1,7 @@
 """What the tests share: refusals and values looked at closely, rows that count, and what is drawn."""
 
 from carvebed import errors
+from carvebed.desk import Desk
 
 REFUSALS = (
     "TooLong", "NoRow", "NoPlace", "TooDeep", "Twice", "Open", "NoSub",
@@ -106,3 +107,55 @@ HOOK = [(1, 0), (0, 0), (0, 2), (-1, -1)]
 
 def flat(width, depth, height):
     return [[height] * width for y in range(depth)]
+
+
+def drawn_cutter(draws):
+    foot = {(0, 0): True}
+    for turn in range(draws.below(25)):
+        reach = draws.between(1, 3)
+        foot[(draws.between(-reach, reach), draws.between(-reach, reach))] = True
+    cells = list(foot)
+    turned = draws.below(len(cells))
+    return (cells[turned:] + cells[:turned], draws.among((1, 5, 30, 200, 1000)))
+
+
+def drawn_shelf(draws):
+    return [drawn_cutter(draws) for turn in range(draws.between(1, 6))]
+
+
+def drawn_wishes(draws, width, depth):
+    """A bed and a wished shape: flat, with steps, or rough; wished wholly, in part, or hardly lower than it is."""
+    heights = draws.among(((90,), (60, 90), (0, 30, 60, 90), tuple(range(91))))
+    bed = [[draws.among(heights) for x in range(width)] for y in range(depth)]
+    how = draws.below(4)
+    floor = draws.below(91)
+    wished = []
+    for row in bed:
+        if how == 0:
+            wished.append([draws.between(0, height) for height in row])
+        elif how == 1:
+            wished.append([min(height, floor) for height in row])
+        elif how == 2:
+            wished.append([min(height, draws.among((0, floor, floor, 90))) for height in row])
+        else:
+            wished.append([height if draws.below(6) else max(height - 7, 0) for height in row])
+    return bed, wished
+
+
+def cells_of(bed):
+    """All cells (x, y), by y, then by x."""
+    return [(x, y) for y, row in enumerate(bed) for x in range(len(row))]
+
+
+def under(bed, cutter, x, y):
+    """The heights of the cells under a cutter by their cells, these by y, then by x."""
+    cells = sorted([(y + dy, x + dx) for dx, dy in cutter[0]])
+    return {(cx, cy): bed[cy][cx] for cy, cx in cells if cy in range(len(bed)) and cx in range(len(bed[0]))}
+
+
+def desk_told(*rows):
+    """A desk that was told rows, none of them refused."""
+    desk = Desk()
+    for row in rows:
+        desk.say(row)
+    return desk

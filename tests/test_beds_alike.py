@@ -7,7 +7,7 @@ import unittest
 
 from carvebed.beds import carved
 from carvebed.spans import bed_of, carved_spans, spans_of
-from tests.helper import Draws, exact
+from tests.helper import Draws, drawn_shelf, exact
 
 
 def way_between(start, end):
@@ -67,17 +67,8 @@ class Drawn:
         heights = self.draws.among(((100,), (100, 101), (90, 100, 110, 120), tuple(range(0, 300, 7))))
         self.bed = [[self.draws.among(heights) for x in range(width)] for y in range(depth)]
         self.highest = max(heights)
-        self.shelf = [self.cutter() for turn in range(self.draws.between(1, 6))]
+        self.shelf = drawn_shelf(self.draws)
         self.moves = self.some_moves()
-
-    def cutter(self):
-        foot = {(0, 0): True}
-        for turn in range(self.draws.below(25)):
-            reach = self.draws.between(1, 3)
-            foot[(self.draws.between(-reach, reach), self.draws.between(-reach, reach))] = True
-        cells = list(foot)
-        turned = self.draws.below(len(cells))
-        return (cells[turned:] + cells[:turned], self.draws.among((1, 5, 30, 200, 1000)))
 
     def is_strange(self):
         return self.draws.below(self.steady) == 0

@@ -182,6 +182,13 @@ class NamesTest(unittest.TestCase):
             if isinstance(node.func, ast.Attribute):
                 self.assertIn(node.func.attr, METHODS + own, (name, node.lineno))
 
+    def test_values_are_given_through_a_local_name(self):
+        for name, tree in trees():
+            tops = [one for part in tree.body for one in top_names(part)]
+            for node in ast.walk(tree):
+                if isinstance(node, ast.Attribute) and isinstance(node.ctx, ast.Store):
+                    self.assertIsInstance(node.value, ast.Name, (name, node.lineno))
+                    self.assertNotIn(node.value.id, tops, (name, node.lineno))
 
     def test_no_name_is_a_method_here_and_a_value_there(self):
         given = [node.attr for name, node in nodes(ast.Attribute) if isinstance(node.ctx, ast.Store)]
